@@ -69,6 +69,9 @@ func splitTexts[T any](s, sep string, most int, read func(string) (T, bool)) ([]
 	return list, true
 }
 
+// absolute returns n without its sign.
+func absolute(n int64) int64 { return max(n, -n) }
+
 func isLetter(r rune) bool { return within(r, 'a', 'z') }
 
 func isDigit(r rune) bool { return within(r, '0', '9') }

@@ -22,7 +22,12 @@ const guard = -987654321
 
 // guarded returns a copy of a list with unused capacity, and a function that fails the test if the list or this capacity has changed.
 func guarded(t *testing.T, list []int64) ([]int64, func(call string)) {
-	whole := append(slices.Clone(list), guard, guard, guard)
+	return guardedBy(t, list, guard)
+}
+
+// guardedBy is guarded for lists of other values; fill is in the unused capacity.
+func guardedBy[T comparable](t *testing.T, list []T, fill T) ([]T, func(call string)) {
+	whole := append(slices.Clone(list), fill, fill, fill)
 	before := slices.Clone(whole)
 	return whole[:len(list)], func(call string) {
 		t.Helper()
