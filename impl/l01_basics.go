@@ -39,6 +39,17 @@ func every[T any](list []T, good func(T) bool) bool {
 	return true
 }
 
+// numbersWith returns the numbers from least to most that are good, in increasing order.
+func numbersWith(least, most int64, good func(int64) bool) []int64 {
+	var list []int64
+	for n := least; n <= most; n++ {
+		if good(n) {
+			list = append(list, n)
+		}
+	}
+	return list
+}
+
 // joinTexts returns the texts of all elements of a list, with sep between two of them.
 func joinTexts[T any](list []T, sep string, text func(T) string) string {
 	var b strings.Builder
