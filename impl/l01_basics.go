@@ -39,6 +39,16 @@ func every[T any](list []T, good func(T) bool) bool {
 	return true
 }
 
+// everyTwo reports whether all pairs of neighbouring elements of a list are good.
+func everyTwo[T any](list []T, good func(before, after T) bool) bool {
+	for i := 1; i < len(list); i++ {
+		if !good(list[i-1], list[i]) {
+			return false
+		}
+	}
+	return true
+}
+
 // numbersWith returns the numbers from least to most that are good, in increasing order.
 func numbersWith(least, most int64, good func(int64) bool) []int64 {
 	var list []int64
