@@ -90,6 +90,23 @@ func splitTexts[T any](s, sep string, most int, read func(string) (T, bool)) ([]
 	return list, true
 }
 
+// splitAnyTexts is splitTexts for lists that may be empty, whose text is then empty.
+func splitAnyTexts[T any](s, sep string, most int, read func(string) (T, bool)) ([]T, bool) {
+	if s == "" {
+		return nil, true
+	}
+	return splitTexts(s, sep, most, read)
+}
+
+// bitNumbers returns the numbers of the bits of a set, in increasing order.
+func bitNumbers(set uint64) []int64 {
+	list := make([]int64, 0, bits.OnesCount64(set))
+	for ; set != 0; set &= set - 1 {
+		list = append(list, int64(bits.TrailingZeros64(set)))
+	}
+	return list
+}
+
 // absolute returns n without its sign.
 func absolute(n int64) int64 { return max(n, -n) }
 
