@@ -231,16 +231,7 @@ func TestCuttingReturnsNewLists(t *testing.T) {
 	before := results(x)
 	expectNewList(t, "WornAt", guard, func() ([]int64, bool) { return impl.WornAt(x.h, x.plan, x.ring) })
 	expectNewList(t, "WornAt the ring 0", guard, func() ([]int64, bool) { return impl.WornAt(x.h, nil, 0) })
-	call := func() ([][]int64, bool) { return impl.NeedsOf(x.h, x.cutter) }
-	needs, ok := call()
-	want := results(needs, ok)
-	for i := range needs {
-		spoil(needs[i], guard)
-		again, ok := call()
-		expect(t, "the intervals behind one that was spoiled", results(needs[i+1:]), results(again[i+1:]))
-		expect(t, "NeedsOf after an interval was spoiled", results(again, ok), want)
-	}
-	expectNewList(t, "NeedsOf", []int64{guard}, call)
+	expectNewLists(t, "NeedsOf", func() ([][]int64, bool) { return impl.NeedsOf(x.h, x.cutter) })
 	expect(t, "the arguments", results(x), before)
 }
 
