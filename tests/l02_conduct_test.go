@@ -12,7 +12,7 @@ import (
 // isZero reports whether a result of a call that failed is a zero value; lists of it are empty.
 func isZero(x any) bool {
 	switch fmt.Sprint(x) {
-	case "0", "", "[]", "false", fmt.Sprint(impl.Pose{}), fmt.Sprint(impl.Axis{}), fmt.Sprint(impl.Machine{}), fmt.Sprint(impl.Course{}), fmt.Sprint(impl.Ground{}), fmt.Sprint(impl.Loss{}), fmt.Sprint(impl.Head{}), fmt.Sprint(impl.Yard{}), fmt.Sprint(impl.Survey{}):
+	case "0", "", "[]", "false", fmt.Sprint(impl.Pose{}), fmt.Sprint(impl.Axis{}), fmt.Sprint(impl.Machine{}), fmt.Sprint(impl.Course{}), fmt.Sprint(impl.Ground{}), fmt.Sprint(impl.Loss{}), fmt.Sprint(impl.Head{}), fmt.Sprint(impl.Yard{}), fmt.Sprint(impl.Survey{}), fmt.Sprint(impl.Drive{}), fmt.Sprint(impl.Deed{}):
 		return true
 	}
 	return false
